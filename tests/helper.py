@@ -1,0 +1,108 @@
+"""What the tests share: values of every kind, expected values, and a check of errors."""
+import copy
+import unittest
+from fractions import Fraction
+
+from tracewords.ratios import Ratio
+
+
+class Odd:
+    """An object of a class that the package does not know."""
+
+
+def no_numbers():
+    """Values of many kinds that are no NUMBER, the sly ones included."""
+    return [None, True, False, "", "1", b"1", [], [1], (), (1,), {}, {0: 1}, set(), {1}, frozenset({1}),
+            Odd(), Odd, len, Ratio, Fraction(1), range(3), ValueError(1)]
+
+
+def no_integers():
+    """Values that are no INTEGER."""
+    return no_numbers() + [Ratio(1), Ratio(0), Ratio(1, 2)]
+
+
+def no_counts():
+    """Values that are no COUNT."""
+    return no_integers() + [-1, -10 ** 20]
+
+
+def no_lists():
+    """Values that may never stand where a list is wanted."""
+    return [None, True, False, 0, 1, -1, "", "ab", b"ab", {}, {0: 1}, set(), {1}, frozenset(), Odd(), Odd, len,
+            Ratio(1), Ratio, range(2), iter([]), Fraction(1)]
+
+
+def told(value):
+    """The value with each int in lists and tuples as a Ratio: what the package is to return."""
+    if isinstance(value, list):
+        return [told(one) for one in value]
+    if isinstance(value, tuple):
+        return tuple(told(one) for one in value)
+    if isinstance(value, Fraction):
+        return Ratio(value.numerator, value.denominator)
+    return Ratio(value) if isinstance(value, int) else value
+
+
+def tupled(value):
+    """The value with tuples in the place of lists."""
+    return tuple(tupled(one) for one in value) if isinstance(value, (list, tuple)) else value
+
+
+def fractions(value):
+    """The value with each number in lists as a Fraction, for reckoning by other means."""
+    if isinstance(value, (list, tuple)):
+        return [fractions(one) for one in value]
+    return Fraction(value.top, value.bottom) if isinstance(value, Ratio) else Fraction(value)
+
+
+def lists_within(value):
+    """All lists inside a value, itself included."""
+    found = [value] if isinstance(value, list) else []
+    if isinstance(value, (list, tuple)):
+        for one in value:
+            found = found + lists_within(one)
+    return found
+
+
+class PackageTest(unittest.TestCase):
+    """Checks that many tests need."""
+
+    def same(self, found, wanted):
+        """The found value is the wanted one, of the same kinds throughout."""
+        self.assertIs(type(found), type(wanted), (found, wanted))
+        if isinstance(wanted, (list, tuple)):
+            self.assertEqual(len(found), len(wanted), (found, wanted))
+            for mine, other in zip(found, wanted):
+                self.same(mine, other)
+        elif wanted is not found:
+            self.assertEqual(found, wanted)
+
+    def fails(self, error, told_parts, call, *parts, **named):
+        """The call raises just this error, which holds the parts: the passed values, or equal ones."""
+        with self.assertRaises(error) as caught:
+            call(*parts, **named)
+        self.assertIs(type(caught.exception), error)
+        for name, wanted in told_parts.items():
+            self.same(getattr(caught.exception, name), wanted)
+
+    def fails_both(self, error, told_parts, call, **named):
+        """As `fails`, with the parts by position, then by name."""
+        self.fails(error, told_parts, call, *named.values())
+        self.fails(error, told_parts, call, **named)
+
+    def gives(self, wanted, call, **named):
+        """The call returns this, by position and by name, also a second time; it changes nothing passed.
+
+        What is returned is new: none of its lists is one that was passed or one of the first answer.
+        """
+        before = copy.deepcopy(list(named.values()))
+        first = call(*named.values())
+        again = call(**named)
+        self.same(first, wanted)
+        self.same(again, wanted)
+        self.same([one for one in named.values() if isinstance(one, (list, tuple))],
+                  [one for one in before if isinstance(one, (list, tuple))])
+        mine = lists_within(first)
+        others = lists_within(again) + lists_within(list(named.values()))
+        self.assertFalse([one for one in mine if any(one is other for other in others)])
+        self.assertEqual(len(mine), len({id(one) for one in mine}), "a list stands twice in what is returned")

@@ -1,0 +1,1 @@
+"""Houses of square tables, told by the sums of their words."""
