@@ -1,8 +1,10 @@
 """What the tests share: values of every kind, expected values, and a check of errors."""
 import copy
+import itertools
 import unittest
 from fractions import Fraction
 
+from tracewords.houses import House
 from tracewords.ratios import Ratio
 
 
@@ -13,7 +15,7 @@ class Odd:
 def no_numbers():
     """Values of many kinds that are no NUMBER, the sly ones included."""
     return [None, True, False, "", "1", b"1", [], [1], (), (1,), {}, {0: 1}, set(), {1}, frozenset({1}),
-            Odd(), Odd, len, Ratio, Fraction(1), range(3), ValueError(1)]
+            Odd(), Odd, len, Ratio, Fraction(1), range(3), ValueError(1), House([[[1]]])]
 
 
 def no_integers():
@@ -29,7 +31,7 @@ def no_counts():
 def no_lists():
     """Values that may never stand where a list is wanted."""
     return [None, True, False, 0, 1, -1, "", "ab", b"ab", {}, {0: 1}, set(), {1}, frozenset(), Odd(), Odd, len,
-            Ratio(1), Ratio, range(2), iter([]), Fraction(1)]
+            Ratio(1), Ratio, range(2), iter([]), Fraction(1), House([[[1]]]), House]
 
 
 def told(value):
@@ -62,6 +64,66 @@ def lists_within(value):
         for one in value:
             found = found + lists_within(one)
     return found
+
+
+def plain_steps(rows):
+    """The steps, by dividing and subtracting Fractions, column by column."""
+    rows = fractions(rows)
+    done = 0
+    for place in range(len(rows[0]) if rows else 0):
+        found = [at for at in range(done, len(rows)) if rows[at][place] != 0]
+        if not found:
+            continue
+        rows[done], rows[found[0]] = rows[found[0]], rows[done]
+        rows[done] = [number / rows[done][place] for number in rows[done]]
+        for at in range(len(rows)):
+            if at != done:
+                by = rows[at][place]
+                rows[at] = [mine - by * its for mine, its in zip(rows[at], rows[done])]
+        done += 1
+    return rows[:done]
+
+
+def some_rows(source, many, wide):
+    """Rows with small numbers, many of them 0, so that some rows are made of others."""
+    def number():
+        top = source.choice([0, 0, 0, 1, 1, -1, 2, -3])
+        return top if source.random() < 0.7 else Ratio(top, source.choice([2, 3, 5, -7]))
+    return [[number() for _ in range(wide)] for _ in range(many)]
+
+
+def plain_times(table, other):
+    """The product of two tables, of Fractions."""
+    return [[sum(row[at] * other[at][place] for at in range(len(other))) for place in range(len(other[0]))]
+            for row in table]
+
+
+def plain_idle(size):
+    """The idle table, of Fractions."""
+    return [[Fraction(int(at == place)) for place in range(size)] for at in range(size)]
+
+
+def plain_word(letters, word):
+    """The table of a word of these letters, of Fractions."""
+    found = plain_idle(len(letters[0]))
+    for at in word:
+        found = plain_times(found, fractions(letters[at]))
+    return found
+
+
+def plain_long(table):
+    """The long row of a table."""
+    return [number for row in table for number in row]
+
+
+def plain_sum(table):
+    """The sum on a table's line."""
+    return sum(table[at][at] for at in range(len(table)))
+
+
+def words_up_to(many, longest):
+    """All words of so many letters, none longer, in the document's sequence."""
+    return [list(word) for length in range(longest + 1) for word in itertools.product(range(many), repeat=length)]
 
 
 class PackageTest(unittest.TestCase):
@@ -100,8 +162,9 @@ class PackageTest(unittest.TestCase):
         again = call(**named)
         self.same(first, wanted)
         self.same(again, wanted)
-        self.same([one for one in named.values() if isinstance(one, (list, tuple))],
-                  [one for one in before if isinstance(one, (list, tuple))])
+        kinds = (list, tuple, Ratio, House)
+        self.same([one for one in named.values() if isinstance(one, kinds)],
+                  [one for one in before if isinstance(one, kinds)])
         mine = lists_within(first)
         others = lists_within(again) + lists_within(list(named.values()))
         self.assertFalse([one for one in mine if any(one is other for other in others)])

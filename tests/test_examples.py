@@ -13,6 +13,51 @@ tracewords/solved.py
 [True, True, [[Ratio(1, 1)]], []]
 >>> [solution([[1, 1], [1, -1]], [3, 1]) == [Ratio(2), Ratio(1)], solution([[1, 1], [2, 2]], [1, 3]), is_solution([[1, 1]], [2], [5, -3]), is_solution([[1, 1]], [2], [1])]
 [True, None, True, False]
+
+tracewords/tables.py
+
+>>> from tracewords.tables import about, determinant, from_long, idle, is_table, led, long_row, mixed, scaled, sum_on, times, undone
+>>> table = [[1, 2], [0, 3]]
+>>> [[str(number) for number in long_row(one)] for one in [times(table, [[0, 1], [1, 0]]), undone(table), about(table), mixed(table, idle(2), -1), scaled(table, Ratio(1, 3))]]
+[['2', '1', '3', '0'], ['1', '-2/3', '0', '1/3'], ['1', '0', '2', '3'], ['0', '2', '0', '2'], ['1/3', '2/3', '0', '1']]
+>>> [sum_on(table), determinant(table), led([1, 1], table), from_long([5]), is_table([[1, 2]]), is_table(()), is_table(((0,),)), times(undone(table), table) == idle(2)]
+[Ratio(4, 1), Ratio(3, 1), [Ratio(1, 1), Ratio(5, 1)], [[Ratio(5, 1)]], False, False, True, True]
+
+tracewords/houses.py
+
+>>> from tracewords.houses import House, about_house, is_word, led_house, side
+>>> from tracewords.tables import sum_on
+>>> free, bent = House([[[1, 1], [0, 1]], [[1, 0], [1, 1]]]), House([[[1, 1], [0, 1]], [[1, 0], [0, 2]]])
+>>> [free.word_sum([0, 1]), free.table([0, 1]) == free.table((0, 1)), sum_on(free.table([])), free.width, is_word(free, [0, 2]), about_house(free) == House(free.letters()[::-1])]
+[Ratio(3, 1), True, Ratio(2, 1), 2, False, True]
+>>> [repr(side(House([[[2]]]), House([[[3]]])).table([0, 0])), led_house(bent, [[0, 1], [1, 0]]) == House([[[1, 0], [1, 1]], [[2, 0], [0, 1]]])]
+['[[Ratio(4, 1), Ratio(0, 1)], [Ratio(0, 1), Ratio(9, 1)]]', True]
+
+tracewords/lots.py
+
+>>> from tracewords.lots import base_words, dimension, every_table, is_closed, is_mixture_of, lot_rows, mixture_of, table_by
+>>> [base_words(free), dimension(bent), every_table(free), [[str(number) for number in row] for row in lot_rows(bent)], mixture_of(bent, [[0, 0], [1, 0]])]
+[[[], [0], [1], [0, 1]], 3, True, [['1', '0', '0', '0'], ['0', '1', '0', '0'], ['0', '0', '0', '1']], None]
+>>> [[(word, str(number)) for word, number in mixture_of(free, [[0, 1], [0, 0]])], is_mixture_of(free, [[1, 2], [0, 1]], [([0, 0], 1)]), is_closed(bent, [[1, 0, 0, 1]]), is_closed(bent, lot_rows(bent)), table_by(bent, []) == table_by(bent, [([0], 2), ([0], -2)])]
+[[([], '-1'), ([0], '1')], True, False, True, True]
+
+tracewords/rooms.py
+
+>>> from tracewords.houses import House
+>>> from tracewords.rooms import images, is_room, least_room, led_out, meet_room, noughts, sum_room
+>>> slope, shift = House([[[1, 1], [0, 1]], [[1, 0], [0, 2]]]), House([[[0, 1], [0, 0]]])
+>>> [is_room(slope, [[0, 1]]), is_room(slope, [[1, 0]]), led_out(slope, [[1, 0]]), led_out(slope, [[0, 2]]), len(least_room(slope, [[1, 0]])), least_room(slope, [[0, 3]]), sum_room(slope, [[0, 1]], []), meet_room(slope, [[0, 1]], []), noughts(shift, [[0, 1], [0, 0]]) == images(shift, [[0, 2], [0, 0]])]
+[True, False, (0, 0), None, 2, [[Ratio(0, 1), Ratio(1, 1)]], [[Ratio(0, 1), Ratio(1, 1)]], [], True]
+
+The example of [26]
+
+>>> house, corner = House([[[1, 1], [0, 1]], [[1, 0], [1, 1]]]), House([[[1, 1], [0, 1]], [[1, 0], [0, 2]]])
+>>> base_words(house)
+[[], [0], [1], [0, 1]]
+>>> [[(word, str(number)) for word, number in mixture_of(house, house.table([0, 0]))], house.table([0, 1]) == [[Ratio(2), Ratio(1)], [Ratio(1), Ratio(1)]]]
+[[([], '-1'), ([0], '2')], True]
+>>> [base_words(corner), [row[2] == Ratio(0) for row in lot_rows(corner)]]
+[[[], [0], [1]], [True, True, True]]
 """
 import doctest
 import pathlib

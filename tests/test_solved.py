@@ -3,38 +3,13 @@ import random
 import unittest
 from fractions import Fraction
 
-from tests.helper import Odd, PackageTest, fractions, no_counts, no_lists, no_numbers, told, tupled
+from tests.helper import (Odd, PackageTest, fractions, no_counts, no_lists, no_numbers, plain_steps, some_rows,
+                          told)
 from tracewords.errors import InvalidGoals, InvalidMany, InvalidRows
 from tracewords.ratios import Ratio
 from tracewords.solved import is_solution, kernel, solution, steps
 
 HALF = Ratio(1, 2)
-
-
-def plain_steps(rows):
-    """The steps, by dividing and subtracting Fractions, column by column."""
-    rows = fractions(rows)
-    done = 0
-    for place in range(len(rows[0]) if rows else 0):
-        found = [at for at in range(done, len(rows)) if rows[at][place] != 0]
-        if not found:
-            continue
-        rows[done], rows[found[0]] = rows[found[0]], rows[done]
-        rows[done] = [number / rows[done][place] for number in rows[done]]
-        for at in range(len(rows)):
-            if at != done:
-                by = rows[at][place]
-                rows[at] = [mine - by * its for mine, its in zip(rows[at], rows[done])]
-        done += 1
-    return rows[:done]
-
-
-def some_rows(source, many, wide, whole=False):
-    """Rows with small numbers, many of them 0, so that some rows are made of others."""
-    def number():
-        top = source.choice([0, 0, 0, 1, 1, -1, 2, -3])
-        return top if whole or source.random() < 0.7 else Ratio(top, source.choice([2, 3, 5, -7]))
-    return [[number() for _ in range(wide)] for _ in range(many)]
 
 
 def bad_rows():

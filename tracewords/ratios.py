@@ -86,7 +86,7 @@ class Ratio:
         return self._top * right.bottom <= right.top * self._bottom
 
     def __eq__(self, other):
-        return isinstance(other, Ratio) and self._top == other.top and self._bottom == other.bottom
+        return isinstance(other, Ratio) and self._top == other._top and self._bottom == other._bottom
 
     @classmethod
     def total(cls, numbers):

@@ -1,0 +1,110 @@
+"""Houses and their words, and what other houses are made of them [6], [21], [25]."""
+from tracewords.basics import is_count, is_list
+from tracewords.errors import InvalidHouse, InvalidLetters, InvalidTable, InvalidWord, TooMany, UnlikeLetters
+from tracewords.ratios import Ratio
+from tracewords.tables import LARGEST, about, idle, is_table, sum_on, times, told_table, undone
+
+MOST_LETTERS = 3
+LONGEST_WORD = 16
+
+
+class House:
+    """Letters, tables of one size, that are used one behind another."""
+
+    def __init__(self, letters):
+        if not are_letters(letters):
+            raise InvalidLetters(letters)
+        self._letters = [told_table(letter) for letter in letters]
+
+    @property
+    def width(self):
+        """The size of the letters."""
+        return len(self._letters[0])
+
+    @property
+    def many(self):
+        """How many letters there are."""
+        return len(self._letters)
+
+    def letters(self):
+        """The list of the told letters."""
+        return [told_table(letter) for letter in self._letters]
+
+    def table(self, word):
+        """The table of the word."""
+        if not is_word(self, word):
+            raise InvalidWord(word)
+        found = idle(self.width)
+        for at in word:
+            found = times(found, self._letters[at])
+        return found
+
+    def word_sum(self, word):
+        """The sum of the word."""
+        return sum_on(self.table(word))
+
+    def __eq__(self, other):
+        return isinstance(other, House) and self._letters == other._letters
+
+    def __repr__(self):
+        return f"House({self._letters!r})"
+
+
+def is_word(house, value):
+    """Whether any value is a word of the house."""
+    check_house(house)
+    if not is_list(value) or len(value) > LONGEST_WORD:
+        return False
+    return all([is_count(at) and at < house.many for at in value])
+
+
+def about_house(house):
+    """The house with each letter turned about."""
+    check_house(house)
+    return House([about(letter) for letter in house.letters()])
+
+
+def side(house, other):
+    """Both houses side by side."""
+    check_house(house)
+    check_house(other)
+    if house.many != other.many:
+        raise UnlikeLetters()
+    if house.width + other.width > LARGEST:
+        raise TooMany("size", LARGEST)
+    return House([on_the_line(mine, its) for mine, its in zip(house.letters(), other.letters())])
+
+
+def led_house(house, table):
+    """The house led by the table."""
+    check_house(house)
+    there = table_of_size(house, table)
+    back = undone(there)
+    return House([times(times(there, letter), back) for letter in house.letters()])
+
+
+def are_letters(value):
+    """Whether any value is a list of 1 to 3 tables of one size."""
+    if not is_list(value) or not 1 <= len(value) <= MOST_LETTERS:
+        return False
+    return all([is_table(letter) and len(letter) == len(value[0]) for letter in value])
+
+
+def check_house(house):
+    """Raise InvalidHouse unless it is a House."""
+    if not isinstance(house, House):
+        raise InvalidHouse(house)
+
+
+def table_of_size(house, table):
+    """The told table; raises InvalidTable unless it is a table of the house's size."""
+    if not is_table(table) or len(table) != house.width:
+        raise InvalidTable(table)
+    return told_table(table)
+
+
+def on_the_line(rows, others):
+    """Both lists of rows on the line, one behind the other, and 0 elsewhere."""
+    upper = [row + [Ratio(0) for _ in others] for row in rows]
+    lower = [[Ratio(0) for _ in rows] + row for row in others]
+    return upper + lower

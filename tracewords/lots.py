@@ -1,0 +1,98 @@
+"""What is made of the words of a house: base words, the lot, closed lots [22], [23], [24]."""
+from tracewords.basics import is_list
+from tracewords.errors import InvalidMixture
+from tracewords.houses import check_house, is_word, table_of_size
+from tracewords.ratios import is_number
+from tracewords.solved import are_rows_of, are_steps, is_made, solution_of, steps_of, steps_with
+from tracewords.tables import columns_of, from_long, idle, long_row, mixed, scaled, times
+
+MOST_TERMS = 40
+
+
+def base_words(house):
+    """The list of the base words, in sequence."""
+    return [word for word, _ in base_pairs(house)]
+
+
+def dimension(house):
+    """How many base words there are."""
+    return len(base_pairs(house))
+
+
+def lot_rows(house):
+    """The steps of the long rows of the lot."""
+    return steps_of([row for _, row in base_pairs(house)])
+
+
+def every_table(house):
+    """Whether every table of the size is in the lot."""
+    return dimension(house) == house.width * house.width
+
+
+def mixture_of(house, table):
+    """The mixture of base words whose table it is; None if it is not in the lot."""
+    check_house(house)
+    goals = long_row(table_of_size(house, table))
+    pairs = base_pairs(house)
+    numbers = solution_of(columns_of([row for _, row in pairs]), goals)
+    if numbers is None:
+        return None
+    return [(word, number) for (word, _), number in zip(pairs, numbers) if number.sign != 0]
+
+
+def is_mixture_of(house, table, value):
+    """Whether any value is a mixture, of whatever words, with this table."""
+    check_house(house)
+    told = table_of_size(house, table)
+    return is_mixture(house, value) and table_by(house, value) == told
+
+
+def table_by(house, mixture):
+    """The table of the mixture."""
+    check_house(house)
+    if not is_mixture(house, mixture):
+        raise InvalidMixture(mixture)
+    found = scaled(idle(house.width), 0)
+    for word, number in mixture:
+        found = mixed(found, house.table(word), number)
+    return found
+
+
+def is_closed(house, value):
+    """Whether any value is the rows of a closed lot of the house."""
+    check_house(house)
+    wide = house.width * house.width
+    if not are_rows_of(value, wide, wide) or not are_steps(value):
+        return False
+    letters = house.letters()
+    wanted = [times(from_long(row), letter) for row in value for letter in letters]
+    return all([is_made(value, long_row(table)) for table in [idle(house.width), *wanted]])
+
+
+def base_pairs(house):
+    """Tuples of each base word and its table's long row, in sequence."""
+    check_house(house)
+    letters = house.letters()
+    found, made = [], []
+    words = [([], idle(house.width))]
+    while words:
+        fresh = []
+        for word, table in words:
+            more = steps_with(made, long_row(table))
+            if len(more) > len(made):
+                made = more
+                fresh.append((word, table))
+        found = found + [(word, long_row(table)) for word, table in fresh]
+        # Each beginning of a base word is one, so only base words are gone on from.
+        words = [([*word, at], times(table, letter)) for word, table in fresh for at, letter in enumerate(letters)]
+    return found
+
+
+def is_mixture(house, value):
+    """Whether any value is a mixture of words of the house."""
+    return is_list(value) and len(value) <= MOST_TERMS and all([is_term(house, term) for term in value])
+
+
+def is_term(house, value):
+    """Whether any value is a tuple of a word of the house and a NUMBER."""
+    return isinstance(value, tuple) and len(value) == 2 and is_word(house, value[0]) and is_number(value[1])
