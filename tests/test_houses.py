@@ -4,6 +4,7 @@ import unittest
 
 from tests.helper import (Odd, PackageTest, fractions, no_counts, no_lists, no_numbers, plain_idle, plain_sum,
                           plain_times, plain_word, some_rows, told, tupled, words_up_to)
+from tests.test_tables import plain_told
 from tracewords.errors import (InvalidHouse, InvalidLetters, InvalidTable, InvalidWord, NotUndone, TooMany,
                                UnlikeLetters)
 from tracewords.houses import House, about_house, is_word, led_house, side
@@ -210,11 +211,6 @@ class SideTest(PackageTest):
                             other=House([plain_told(4)]))
         self.fails_both(TooMany, {"what": "size", "limit": 4}, side, house=House([plain_told(4)]),
                         other=House([[[0]]]))
-
-
-def plain_told(size):
-    """The idle table of a size, as the package tells it."""
-    return told(plain_idle(size))
 
 
 class LedHouseTest(PackageTest):

@@ -35,7 +35,8 @@ class MakingTest(PackageTest):
                 setattr(Ratio(1, 2), name, 5)
 
     def test_sign(self):
-        for number, wanted in [(Ratio(3, 4), 1), (Ratio(-3, 4), -1), (Ratio(0, 9), 0), (Ratio(3, -4), -1)]:
+        for number, wanted in [(Ratio(3, 4), 1), (Ratio(-3, 4), -1), (Ratio(0, 9), 0), (Ratio(3, -4), -1),
+                               (Ratio(1, 9), 1), (Ratio(-1, 9), -1), (Ratio(1), 1)]:
             self.same(number.sign, wanted)
 
     def test_is_whole(self):

@@ -118,12 +118,8 @@ def are_numbers(value):
 
 
 def ratio_of(number):
-    """The NUMBER as a Ratio."""
-    if isinstance(number, Ratio):
-        return number
-    if not is_integer(number):
-        raise InvalidNumber(number)
-    return Ratio(number)
+    """The NUMBER as a Ratio; raises InvalidNumber unless it is one."""
+    return number if isinstance(number, Ratio) else Ratio(number)
 
 
 def ratio_row(numbers):
