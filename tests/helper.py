@@ -34,6 +34,28 @@ def no_lists():
             Ratio(1), Ratio, range(2), iter([]), Fraction(1), House([[[1]]]), House]
 
 
+def never_valid():
+    """Values that are valid in no place of a table, a word, a mixture, a room and the like."""
+    return [None, True, False, "", "ab", b"ab", {}, {0: 1}, set(), {1}, frozenset(), Odd(), Odd, len, Fraction(1),
+            range(2), iter([]), ValueError(1), House([[[1]]]), House]
+
+
+def spoiled(value):
+    """All values like this one, with something odd in the place of one thing within it, at whatever depth.
+
+    In the place of a number stands a list, too, and in the place of a list a number.
+    """
+    found = []
+    for at, one in enumerate(value):
+        if isinstance(one, (list, tuple)):
+            others = spoiled(one) + [5, 0, -1, Ratio(1, 2), Ratio(0)]
+        else:
+            others = [[], (), [1], (1,), [[1]]]
+        for other in others + never_valid():
+            found.append(type(value)([*value[:at], other, *value[at + 1:]]))
+    return found
+
+
 def told(value):
     """The value with each int in lists and tuples as a Ratio: what the package is to return."""
     if isinstance(value, list):

@@ -3,7 +3,7 @@ import random
 import unittest
 
 from tests.helper import (Odd, PackageTest, fractions, no_counts, no_lists, no_numbers, plain_idle, plain_sum,
-                          plain_times, plain_word, some_rows, told, tupled, words_up_to)
+                          plain_times, plain_word, some_rows, spoiled, told, tupled, words_up_to)
 from tests.test_tables import plain_told
 from tracewords.errors import (InvalidHouse, InvalidLetters, InvalidTable, InvalidWord, NotUndone, TooMany,
                                UnlikeLetters)
@@ -21,6 +21,9 @@ def bad_letters():
     found += [[one] for one in no_lists()] + [[SLOPE, one] for one in no_lists()]
     found += [[[[one]]] for one in no_numbers()] + [[SLOPE, [[1, 0], [0, one]]] for one in no_numbers()]
     found += [[SLOPE, SLOPE, [[1, 2]]], [plain_idle(5)], [[[0] * 5 for _ in range(5)]]]
+    # Whatever stands ahead of a table may have no length to compare with that of the table.
+    found += spoiled([SLOPE, CLIMB, SWAP]) + spoiled(tupled([SLOPE, CLIMB]))
+    found += [[one, one, SLOPE] for one in no_lists()] + [[[], SLOPE], [[], [], SLOPE], [[[1]], [1], SLOPE]]
     return found
 
 
@@ -32,7 +35,7 @@ def no_houses():
 def bad_words(many):
     """Values that are no word of so many letters."""
     found = no_lists() + [[one] for one in no_counts()] + [[0, one, 0] for one in no_counts()]
-    return found + [[many], [0, many], [0] * 17, (0,) * 17, [[0]], [10 ** 20]]
+    return found + [[many], [0, many], [0] * 17, (0,) * 17, [[0]], [10 ** 20]] + spoiled([0, 0]) + spoiled((0, 0, 0))
 
 
 def some_letters(seed, per_kind=2):

@@ -4,7 +4,7 @@ import unittest
 from fractions import Fraction
 
 from tests.helper import (Odd, PackageTest, fractions, no_lists, no_numbers, plain_idle, plain_long, plain_steps,
-                          plain_word, some_rows, told, tupled, words_up_to)
+                          plain_word, some_rows, spoiled, told, tupled, words_up_to)
 from tests.test_houses import bad_words, no_houses
 from tests.test_tables import bad_tables
 from tracewords.errors import InvalidHouse, InvalidMixture, InvalidTable
@@ -43,6 +43,7 @@ def bad_mixtures(many):
     found += [[([0], one)] for one in no_numbers()] + [[(one, 1)] for one in bad_words(many)]
     found += [[[[0], 1]], [([], 1), [[0], 1]], [([0],)], [([0], 1, 1)], [()], ((), ()), [(1, [0])], ([0], 1)]
     found += [[([], 1)] * 41, ([([], 1)] * 41), {(): 1}]
+    found += spoiled([([0], 1), ([0, 0], 2)]) + spoiled((((0,), 1), ((), 2)))
     return found
 
 
@@ -241,7 +242,7 @@ class ClosedTest(PackageTest):
     def test_values_of_every_kind(self):
         bad = no_lists() + [[one] for one in no_lists()] + [[[1, 0, 0, 1], one] for one in no_lists()]
         bad += [[[1, 0, 0, one]] for one in no_numbers()] + [[[one, 0, 0, 1]] for one in no_numbers()]
-        bad += [[[]], [[[1, 0], [0, 1]]], [[1, 0, 0, 1]] * 5, Odd()]
+        bad += [[[]], [[[1, 0], [0, 1]]], [[1, 0, 0, 1]] * 5, Odd()] + spoiled([[1, 0, 0, 0], [0, 0, 0, 1]])
         for value in bad:
             self.same(is_closed(NOUGHT, value), False)
             self.same(is_closed(house=NOUGHT, value=value), False)

@@ -3,7 +3,7 @@ import random
 import unittest
 
 from tests.helper import (Odd, PackageTest, fractions, no_lists, no_numbers, plain_steps, plain_times, plain_word,
-                          some_rows, told, tupled, words_up_to)
+                          some_rows, spoiled, told, tupled, words_up_to)
 from tests.test_houses import no_houses, some_letters
 from tests.test_tables import bad_tables
 from tracewords.errors import InvalidHouse, InvalidRoom, InvalidRows, InvalidTable, NotCommuting
@@ -61,6 +61,7 @@ def bad_rows(size):
     good = [0] * size
     found = no_lists() + [[one] for one in no_lists()] + [[good, one] for one in no_lists()]
     found += [[[one] + good[1:]] for one in no_numbers()] + [[good, good[1:] + [one]] for one in no_numbers()]
+    found += spoiled([good, good, good]) + spoiled((tuple(good), tuple(good)))
     return found + [[[]], [good + [0]], [good[1:]], [good, good + [0]], [good] * 41, (tuple(good),) * 41, [[good]]]
 
 

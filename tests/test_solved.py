@@ -4,7 +4,7 @@ import unittest
 from fractions import Fraction
 
 from tests.helper import (Odd, PackageTest, fractions, no_counts, no_lists, no_numbers, plain_steps, some_rows,
-                          told)
+                          spoiled, told)
 from tracewords.errors import InvalidGoals, InvalidMany, InvalidRows
 from tracewords.ratios import Ratio
 from tracewords.solved import is_solution, kernel, solution, steps
@@ -18,6 +18,7 @@ def bad_rows():
     found += [[one] for one in no_lists()] + [[[1, 2], one] for one in no_lists()]
     found += [[[one]] for one in no_numbers()] + [[[0, 1], [1, one]] for one in no_numbers()]
     found += [[[]], [[], []], ((),), [[1], [1, 2]], [[1, 2], [1]], [[1], []], [[], [1]]]
+    found += spoiled([[1, 2], [3, 4], [5, 6]]) + spoiled(((1, 2), (3, 4))) + [[5, 5, [1, 2]], [None, None, [1]]]
     found += [[[1] * 61], [[1]] * 61, [[1] * 60, [1] * 61], [[[1]]], [[1], [[1]]]]
     return found
 
@@ -192,7 +193,7 @@ class SolutionTest(PackageTest):
             self.fails_both(InvalidRows, {"value": value}, is_solution, rows=value, goals=[1], value=[1])
 
     def test_wrong_goals(self):
-        bad = no_lists() + [[1, one] for one in no_numbers()] + [[], [1], (1,), [1, 2, 3]]
+        bad = no_lists() + [[1, one] for one in no_numbers()] + [[], [1], (1,), [1, 2, 3]] + spoiled([1, 2])
         for value in bad:
             self.fails_both(InvalidGoals, {"value": value}, solution, rows=[[1], [2]], goals=value)
             self.fails_both(InvalidGoals, {"value": value}, is_solution, rows=[[1], [2]], goals=value, value=[1])

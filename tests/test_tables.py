@@ -5,7 +5,7 @@ import unittest
 from fractions import Fraction
 
 from tests.helper import (PackageTest, fractions, no_counts, no_lists, no_numbers, plain_idle, plain_long,
-                          plain_sum, plain_times, some_rows, told, tupled)
+                          plain_sum, plain_times, some_rows, spoiled, told, tupled)
 from tracewords.errors import InvalidNumber, InvalidRow, InvalidSize, InvalidTable, NotUndone, UnlikeSizes
 from tracewords.ratios import Ratio
 from tracewords.tables import (about, determinant, from_long, idle, is_table, led, long_row, mixed, scaled, sum_on,
@@ -21,13 +21,15 @@ def bad_tables():
     found = no_lists() + [[], (), [[]], [[], []], [1], [[1, 2]], [[1], [2]], [[1, 2], [3]], [[1], [2, 3]]]
     found += [[one] for one in no_lists()] + [[[1, 2], one] for one in no_lists()]
     found += [[[one]] for one in no_numbers()] + [[[1, 0], [one, 1]] for one in no_numbers()]
+    found += spoiled([[1, 2], [3, 4]]) + spoiled(((1, 0, 0), (0, 1, 0), (0, 0, 1))) + [[None, None], [5, 5]]
     found += [[[1, 2], [3, 4], [5, 6]], [[1, 2, 3], [4, 5, 6]], [[[1]]], plain_idle(5), [[0] * 5 for _ in range(5)]]
     return found
 
 
 def bad_rows():
     """Values that are no rows of size 1 to 4."""
-    return no_lists() + [[], (), [1] * 5] + [[one] for one in no_numbers()] + [[1, one, 0] for one in no_numbers()]
+    found = no_lists() + [[], (), [1] * 5] + [[one] for one in no_numbers()] + [[1, one, 0] for one in no_numbers()]
+    return found + spoiled([1, 2, 3]) + spoiled((1, 2))
 
 
 def tables(seed, many, sizes=(1, 2, 3, 4)):

@@ -87,7 +87,8 @@ def are_letters(value):
     """Whether any value is a list of 1 to 3 tables of one size."""
     if not is_list(value) or not 1 <= len(value) <= MOST_LETTERS:
         return False
-    return all([is_table(letter) and len(letter) == len(value[0]) for letter in value])
+    # Only a table is known to have a size, so none is asked for before all of them are known to be tables.
+    return all([is_table(letter) for letter in value]) and all([len(letter) == len(value[0]) for letter in value])
 
 
 def check_house(house):
