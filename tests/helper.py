@@ -1,6 +1,7 @@
 """What the tests share: values of every kind, expected values, and a check of errors."""
 import copy
 import itertools
+import random
 import unittest
 from fractions import Fraction
 
@@ -106,6 +107,24 @@ def plain_steps(rows):
     return rows[:done]
 
 
+def plain_rank(rows):
+    """How many of the rows are free."""
+    return len(plain_steps(list(rows)))
+
+
+def plain_kernel(rows, wide):
+    """The kernel, in steps, of Fractions: one list for each place that is no head."""
+    found = plain_steps(rows)
+    heads = [next(at for at, number in enumerate(row) if number != 0) for row in found]
+    lists = []
+    for free in [place for place in range(wide) if place not in heads]:
+        one = [Fraction(int(place == free)) for place in range(wide)]
+        for row, at in zip(found, heads):
+            one[at] = -row[free]
+        lists.append(one)
+    return plain_steps(lists)
+
+
 def some_rows(source, many, wide):
     """Rows with small numbers, many of them 0, so that some rows are made of others."""
     def number():
@@ -123,6 +142,17 @@ def plain_times(table, other):
 def plain_idle(size):
     """The idle table, of Fractions."""
     return [[Fraction(int(at == place)) for place in range(size)] for at in range(size)]
+
+
+def plain_led(row, table):
+    """The row, led by the table, of Fractions."""
+    return plain_times([fractions(row)], fractions(table))[0]
+
+
+def plain_undone(table):
+    """The table that undoes this one, of Fractions."""
+    size = len(table)
+    return [row[size:] for row in plain_steps([list(row) + line for row, line in zip(table, plain_idle(size))])]
 
 
 def plain_word(letters, word):
@@ -146,6 +176,75 @@ def plain_sum(table):
 def words_up_to(many, longest):
     """All words of so many letters, none longer, in the document's sequence."""
     return [list(word) for length in range(longest + 1) for word in itertools.product(range(many), repeat=length)]
+
+
+def plain_table(row, wide):
+    """The table of a long row."""
+    return [row[at:at + wide] for at in range(0, len(row), wide)]
+
+
+def whole_room(size):
+    """The rows of the idle table, of INTEGERS."""
+    return [[int(at == place) for place in range(size)] for at in range(size)]
+
+
+def edge_letters():
+    """Letters of houses at the edges that the document names, of sizes 1 to 4."""
+    slope, climb, double, swap = [[1, 1], [0, 1]], [[1, 0], [1, 1]], [[1, 0], [0, 2]], [[0, 1], [1, 0]]
+    cycle = [[0, 1, 0, 0], [0, 0, 1, 0], [0, 0, 0, 1], [1, 0, 0, 0]]
+    chain = [[0, 1, 0, 0], [0, 0, 1, 0], [0, 0, 0, 1], [0, 0, 0, 0]]
+    return [[[[0]]], [[[5]]], [[[5]], [[0]], [[Ratio(1, 2)]]],
+            [slope], [double], [swap], [[[0, 1], [-1, 0]]], [[[0, 1], [0, 0]]], [[[0, 0], [0, 0]]],
+            [whole_room(2)], [slope, climb], [slope, double], [slope, slope, climb], [double, double],
+            [[[0, 0], [0, 0]], double, [[3, 0], [0, 3]]],
+            [[[1, 0, 0], [0, 1, 0], [0, 0, 2]]], [[[1, 2, 3], [0, 1, 4], [0, 0, 2]], [[0, 1, 0], [0, 0, 1], [0, 0, 0]]],
+            [[[1, 1, 0], [0, 1, 0], [0, 0, 7]], [[1, 0, 0], [1, 1, 0], [0, 0, Ratio(1, 2)]]],
+            [whole_room(3)], [whole_room(4), whole_room(4)], [cycle], [chain], [cycle, chain],
+            [[[1, 0, 0, 0], [0, 2, 0, 0], [0, 0, 3, 0], [0, 0, 0, 3]], [[0] * 4] * 4],
+            [[[1, 1, 0, 0], [0, 1, 0, 0], [0, 0, 1, 1], [0, 0, 0, 1]],
+             [[1, 0, 0, 0], [1, 1, 0, 0], [0, 0, 1, 0], [0, 0, 1, 1]]],
+            [[[1, 2, 0, 0], [3, 4, 0, 0], [0, 0, 0, 1], [0, 0, 1, 0]], [[0, 1, 0, 0], [1, 0, 0, 0], [0, 0, 2, 0],
+                                                                      [0, 0, 0, 5]]]]
+
+
+def some_undone(source, size):
+    """A table that can be undone."""
+    lower = [[source.choice([-1, 0, 1, 2]) if place < at else int(place == at) for place in range(size)]
+             for at in range(size)]
+    upper = [[source.choice([-1, 0, 1, 3]) if place > at else int(place == at) for place in range(size)]
+             for at in range(size)]
+    return plain_times(lower, upper)
+
+
+def bent_letters(letters, table):
+    """The letters, led by the table, of Fractions."""
+    back = plain_undone(table)
+    return [plain_times(plain_times(fractions(table), fractions(letter)), back) for letter in letters]
+
+
+def cornered(source, upper, lower, many, beside=False):
+    """Letters that keep the room of their last places: noughts below on the left, above on the right, too, if beside.
+
+    They are led by a table; so is the room that is returned with them.
+    """
+    size = upper + lower
+    letters = []
+    for _ in range(many):
+        letter = some_rows(source, size, size)
+        for at in range(size):
+            for place in range(size):
+                if (at >= upper > place) or (beside and at < upper <= place):
+                    letter[at][place] = 0
+        letters.append(letter)
+    table = some_undone(source, size)
+    return bent_letters(letters, table), plain_steps(plain_undone(table)[upper:])
+
+
+def some_cornered(seed, many, beside=False):
+    """Tuples of letters and a room that they keep, of sizes 2 to 4."""
+    source = random.Random(seed)
+    return [cornered(source, upper, lower, letters, beside) for upper, lower in [(1, 1), (1, 2), (2, 1), (2, 2), (3, 1)]
+            for letters in (1, 2, 3) for _ in range(many)]
 
 
 class PackageTest(unittest.TestCase):

@@ -49,6 +49,12 @@ tracewords/rooms.py
 >>> [is_room(slope, [[0, 1]]), is_room(slope, [[1, 0]]), led_out(slope, [[1, 0]]), led_out(slope, [[0, 2]]), len(least_room(slope, [[1, 0]])), least_room(slope, [[0, 3]]), sum_room(slope, [[0, 1]], []), meet_room(slope, [[0, 1]], []), noughts(shift, [[0, 1], [0, 0]]) == images(shift, [[0, 2], [0, 0]])]
 [True, False, (0, 0), None, 2, [[Ratio(0, 1), Ratio(1, 1)]], [[Ratio(0, 1), Ratio(1, 1)]], [], True]
 
+tracewords/cuts.py
+
+>>> from tracewords.cuts import cut, rest_house, split_sums
+>>> [cut(slope, [[0, 1]]) == House([[[1]], [[2]]]), rest_house(slope, [[0, 1]]) == House([[[1]], [[1]]]), split_sums(slope, [[0, 1]], [1, 1]), split_sums(slope, [], [])]
+[True, True, (Ratio(4, 1), Ratio(1, 1)), (Ratio(0, 1), Ratio(2, 1))]
+
 The example of [26]
 
 >>> house, corner = House([[[1, 1], [0, 1]], [[1, 0], [1, 1]]]), House([[[1, 1], [0, 1]], [[1, 0], [0, 2]]])
@@ -58,6 +64,51 @@ The example of [26]
 [[([], '-1'), ([0], '2')], True]
 >>> [base_words(corner), [row[2] == Ratio(0) for row in lot_rows(corner)]]
 [[[], [0], [1]], [True, True, True]]
+
+tracewords/leads.py
+
+>>> from tracewords.houses import House
+>>> from tracewords.leads import commuting, is_commuting, is_lead, leads, middle
+>>> from tracewords.ratios import Ratio
+>>> line, shift, turned = House([[[1, 0], [0, 2]]]), House([[[1, 1], [0, 1]]]), House([[[2, 0], [0, 1]]])
+>>> [len(commuting(line)), len(middle(line)), commuting(shift)[1] == [[Ratio(0), Ratio(1)], [Ratio(0), Ratio(0)]], is_commuting(line, [[5, 0], [0, 7]]), is_commuting(line, [[0, 1], [0, 0]]), is_lead(line, turned, [[0, 3], [0, 0]]), leads(line, shift) == [[[Ratio(0), Ratio(1)], [Ratio(0), Ratio(0)]]]]
+[2, 2, True, True, False, True, True]
+
+tracewords/partners.py
+
+>>> from tracewords.partners import is_onto, is_partner, onto, partner
+>>> [partner(line, [[1, 0]]) == [[Ratio(0), Ratio(1)]], partner(shift, [[0, 1]]), is_partner(House([[[1, 0], [0, 1]]]), [[0, 1]], [[1, 9]]), partner(shift, []) == [[Ratio(1), Ratio(0)], [Ratio(0), Ratio(1)]], partner(shift, [[1, 0], [0, 1]])]
+[True, None, True, True, []]
+>>> [onto(line, [[1, 0]]) == [[Ratio(1), Ratio(0)], [Ratio(0), Ratio(0)]], onto(shift, [[0, 1]]), is_onto(line, [[0, 1]], [[0, 0], [0, 1]]), is_onto(shift, [], [[0, 0], [0, 0]])]
+[True, None, True, True]
+
+tracewords/sums.py
+
+>>> from tracewords.houses import House
+>>> from tracewords.sums import counts, parts, sums_rank, sums_table
+>>> pair, corner, line = House([[[1, 1], [0, 1]], [[1, 0], [1, 1]]]), House([[[1, 1], [0, 1]], [[1, 0], [0, 2]]]), House([[[1, 0], [0, 2]]])
+>>> [[str(one) for one in row] for row in sums_table(pair)]
+[['2', '2', '2', '3'], ['2', '2', '3', '4'], ['2', '3', '2', '4'], ['3', '4', '4', '7']]
+>>> [sums_rank(pair), sums_rank(corner), parts(pair), parts(corner), counts(pair), counts(line)]
+[4, 2, True, False, (4, 1, 1), (2, 2, 2)]
+
+The example of [43], and of [45]
+
+>>> [[str(one) for row in table for one in row] for table in commuting(line)], commuting(line) == middle(line)
+([['1', '0', '0', '0'], ['0', '0', '0', '1']], True)
+>>> [[str(one) for one in row] for row in lot_rows(line)]
+[['1', '0', '0', '0'], ['0', '0', '0', '1']]
+>>> from tracewords.rooms import is_room
+>>> calm = House([[[1, 0], [0, 1]]])
+>>> [is_room(shift, [[0, 1]]), partner(shift, [[0, 1]]), is_room(calm, [[0, 1]])]
+[True, None, True]
+>>> [is_partner(calm, [[0, 1]], [[1, number]]) for number in [0, 1, -5, Ratio(2, 3)]]
+[True, True, True, True]
+
+The example of [56]
+
+>>> [base_words(corner), [[str(one) for one in row] for row in sums_table(corner)], sums_rank(corner)]
+[[[], [0], [1]], [['2', '2', '3'], ['2', '2', '3'], ['3', '3', '5']], 2]
 """
 import doctest
 import pathlib

@@ -1,4 +1,5 @@
 """[22] Base words, [23] Dimension, [24] Closed lots, [26] their example."""
+import itertools
 import random
 import unittest
 from fractions import Fraction
@@ -28,6 +29,26 @@ def plain_base(letters, longest=5):
         if len(more) > len(rows):
             found, rows = found + [word], more
     return found, rows
+
+
+def plain_lot(letters):
+    """The base words and their long rows, of words as long as are needed."""
+    found, rows, length = [], [], 0
+    while length == 0 or any(len(word) == length - 1 for word in found):
+        for word in itertools.product(range(len(letters)), repeat=length):
+            row = plain_long(plain_word(letters, list(word)))
+            if not plain_made(rows, row):
+                found, rows = found + [list(word)], plain_steps(rows + [row])
+        length += 1
+    return found, rows
+
+
+def plain_made(rows, row):
+    """Whether these rows, in steps, make the row."""
+    for step in rows:
+        by = row[[number != 0 for number in step].index(True)]
+        row = [mine - by * its for mine, its in zip(row, step)]
+    return not any(row)
 
 
 def some_houses(seed):

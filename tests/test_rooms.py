@@ -2,7 +2,7 @@
 import random
 import unittest
 
-from tests.helper import (Odd, PackageTest, fractions, no_lists, no_numbers, plain_steps, plain_times, plain_word,
+from tests.helper import (Odd, PackageTest, fractions, no_lists, no_numbers, plain_led, plain_steps, plain_word,
                           some_rows, spoiled, told, tupled, words_up_to)
 from tests.test_houses import no_houses, some_letters
 from tests.test_tables import bad_tables
@@ -21,11 +21,6 @@ WHOLE = [[1, 0], [0, 1]]
 def made(rows, row):
     """Whether the rows make this one, by Fractions."""
     return len(plain_steps(list(rows) + [row])) == len(plain_steps(rows))
-
-
-def plain_led(row, table):
-    """The row, led, of Fractions."""
-    return plain_times([fractions(row)], fractions(table))[0]
 
 
 def plain_kept(letters, rows):

@@ -66,10 +66,7 @@ def about_house(house):
 
 def side(house, other):
     """Both houses side by side."""
-    check_house(house)
-    check_house(other)
-    if house.many != other.many:
-        raise UnlikeLetters()
+    check_alike_letters(house, other)
     if house.width + other.width > LARGEST:
         raise TooMany("size", LARGEST)
     return House([on_the_line(mine, its) for mine, its in zip(house.letters(), other.letters())])
@@ -97,11 +94,27 @@ def check_house(house):
         raise InvalidHouse(house)
 
 
+def check_alike_letters(house, other):
+    """Raise InvalidHouse unless both are Houses, then UnlikeLetters unless they have as many letters."""
+    check_house(house)
+    check_house(other)
+    if house.many != other.many:
+        raise UnlikeLetters()
+
+
 def table_of_size(house, table):
     """The told table; raises InvalidTable unless it is a table of the house's size."""
     if not is_table(table) or len(table) != house.width:
         raise InvalidTable(table)
     return told_table(table)
+
+
+def leads_over(house, other, table):
+    """Whether each letter of the house, then the table, is the table, then the other house's letter.
+
+    Both houses have as many letters and are of the table's size.
+    """
+    return all([times(mine, table) == times(table, its) for mine, its in zip(house.letters(), other.letters())])
 
 
 def on_the_line(rows, others):

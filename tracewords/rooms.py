@@ -1,8 +1,8 @@
 """Rooms that a house keeps [7], [31] to [35]."""
 from tracewords.errors import InvalidRoom, InvalidRows, NotCommuting
-from tracewords.houses import check_house, table_of_size
+from tracewords.houses import check_house, leads_over, table_of_size
 from tracewords.solved import are_rows_of, are_steps, is_made, kernel_of, steps_of
-from tracewords.tables import about, led, times
+from tracewords.tables import about, led
 
 MOST_ROWS = 40
 
@@ -76,17 +76,20 @@ def check_rows_of_size(house, rows):
 
 def check_rooms(house, room, other):
     """Raise InvalidHouse, or InvalidRoom with the first one that is no kept room of the house."""
+    check_room(house, room)
+    check_room(house, other)
+
+
+def check_room(house, room):
+    """Raise InvalidHouse, or InvalidRoom unless it is a kept room of the house."""
     if not is_room(house, room):
         raise InvalidRoom(room)
-    if not is_room(house, other):
-        raise InvalidRoom(other)
 
 
 def commuting_table(house, table):
     """The told table; raises NotCommuting unless it commutes with all letters."""
     check_house(house)
     told = table_of_size(house, table)
-    for letter in house.letters():
-        if times(letter, told) != times(told, letter):
-            raise NotCommuting()
+    if not leads_over(house, house, told):
+        raise NotCommuting()
     return told
