@@ -92,6 +92,42 @@ tracewords/sums.py
 >>> [sums_rank(pair), sums_rank(corner), parts(pair), parts(corner), counts(pair), counts(line)]
 [4, 2, True, False, (4, 1, 1), (2, 2, 2)]
 
+tracewords/nil.py
+
+>>> from tracewords.nil import is_nil, is_nil_mixture, nil_mixture, nil_part, nil_room
+>>> [[[str(one) for one in row] for row in table] for table in nil_part(corner)]
+[[['0', '1'], ['0', '0']]]
+>>> [nil_part(pair), is_nil(corner, [[0, 3], [0, 0]]), is_nil(corner, [[1, 0], [0, 1]]), is_nil(pair, [[0, 0], [0, 0]]), is_nil_mixture(corner, [([], -2), ([0], 2)]), is_nil_mixture(corner, [])]
+[[], True, False, True, True, False]
+>>> [nil_mixture(pair), is_nil_mixture(corner, nil_mixture(corner)), [[str(one) for one in row] for row in nil_room(corner)], nil_room(line)]
+[None, True, [['0', '1']], []]
+
+tracewords/alike.py
+
+>>> from tracewords.alike import alike_sums, both_words, is_unlike_word, unlike_word
+>>> from tracewords.houses import House, led_house
+>>> two, three = House([[[2]]]), House([[[3]]])
+>>> [both_words(two, three), unlike_word(two, three), is_unlike_word(two, three, (0, 0)), is_unlike_word(two, three, []), alike_sums(two, two)]
+[[[], [0]], [0], True, False, True]
+
+tracewords/changes.py
+
+>>> from tracewords.changes import change, is_change
+>>> here, there = House([[[1, 0], [0, 2]], [[0, 1], [1, 0]]]), House([[[2, 0], [0, 1]], [[0, 1], [1, 0]]])
+>>> [is_change(here, there, [[0, 1], [1, 0]]), is_change(here, there, [[1, 0], [0, 1]]), is_change(here, there, change(here, there)), change(two, three)]
+[True, False, True, None]
+>>> [is_change(here, led_house(here, [[1, 1], [0, 1]]), [[1, -1], [0, 1]]), change(House([[[0, 1], [1, 0]]]), House([[[1, 0], [0, 1]]]))]
+[True, None]
+
+tracewords/machines.py
+
+>>> from tracewords.machines import Machine, house_machine, sum_machine
+>>> pairs = Machine([1, 0], [[[1, 1], [1, 0]]], (1, 0))
+>>> [[str(pairs.worth([0] * many)) for many in range(6)], pairs.states, sum_machine(pairs, Machine([2], [[[0]]], [3])).worth([])]
+[['1', '1', '2', '3', '5', '8'], 2, Ratio(7, 1)]
+>>> [str(house_machine(House([[[1, 1], [0, 1]], [[1, 0], [1, 1]]])).worth(word)) for word in [[], [0], [0, 1], [0, 1, 1]]]
+['2', '2', '3', '4']
+
 The example of [43], and of [45]
 
 >>> [[str(one) for row in table for one in row] for table in commuting(line)], commuting(line) == middle(line)
@@ -109,6 +145,21 @@ The example of [56]
 
 >>> [base_words(corner), [[str(one) for one in row] for row in sums_table(corner)], sums_rank(corner)]
 [[[], [0], [1]], [['2', '2', '3'], ['2', '2', '3'], ['3', '3', '5']], 2]
+>>> [parts(corner), [[[str(one) for one in row] for row in table] for table in nil_part(corner)]]
+[False, [[['0', '1'], ['0', '0']]]]
+>>> from tracewords.tables import mixed
+>>> [mixed(corner.table([0]), corner.table([]), -1) == nil_part(corner)[0], nil_room(corner) == [[Ratio(0), Ratio(1)]]]
+[True, True]
+
+The houses of [63] that have alike sums and no change
+
+>>> nought, shift = House([[[0, 0], [0, 0]]]), House([[[0, 1], [0, 0]]])
+>>> [alike_sums(nought, shift), is_change(nought, shift, [[1, 0], [0, 1]]), is_change(shift, nought, [[0, 1], [1, 0]])]
+[True, False, False]
+>>> change(nought, shift)
+Traceback (most recent call last):
+    ...
+tracewords.errors.NotParted
 """
 import doctest
 import pathlib

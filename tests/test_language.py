@@ -167,6 +167,25 @@ class LanguageTest(unittest.TestCase):
                 if node.name.startswith("__"):
                     self.assertIn(node.name, DUNDERS, path)
 
+    def test_stars(self):
+        for path, tree in trees():
+            for call in inner(tree, ast.Call):
+                for one in call.args:
+                    if isinstance(one, ast.Starred):
+                        self.assertIsInstance(one.value, (ast.Name, ast.Attribute, ast.Constant), path)
+            for one in inner(tree, ast.Starred):
+                self.assertNotIsInstance(one.value, ast.Call, (path, one.lineno))
+
+    def test_what_is_iterated_at_once(self):
+        at_once = ["range", "zip", "enumerate", "reversed"]
+        for path, tree in trees():
+            fine = [node.iter for node in inner(tree, ast.For, ast.comprehension)]
+            fine += [node.args[0] for node in inner(tree, ast.Call) if isinstance(node.func, ast.Name) and node.args
+                     and node.func.id in ["list", "tuple", "dict", "sorted", "sum", "any", "all", "enumerate", "zip"]]
+            for node in inner(tree, ast.Call):
+                if isinstance(node.func, ast.Name) and node.func.id in at_once:
+                    self.assertIn(node, fine, (path, node.lineno))
+
     def test_growing_in_place(self):
         for path, tree in trees():
             for node in inner(tree, ast.AugAssign):

@@ -1,11 +1,10 @@
 """[22] Base words, [23] Dimension, [24] Closed lots, [26] their example."""
-import itertools
 import random
 import unittest
 from fractions import Fraction
 
 from tests.helper import (Odd, PackageTest, fractions, no_lists, no_numbers, plain_idle, plain_long, plain_steps,
-                          plain_word, some_rows, spoiled, told, tupled, words_up_to)
+                          plain_times, plain_word, some_rows, spoiled, told, tupled, words_up_to)
 from tests.test_houses import bad_words, no_houses
 from tests.test_tables import bad_tables
 from tracewords.errors import InvalidHouse, InvalidMixture, InvalidTable
@@ -31,24 +30,54 @@ def plain_base(letters, longest=5):
     return found, rows
 
 
+def plain_words(*houses):
+    """The base words of all these letters, and the steps of their long rows: of all words as long as are needed.
+
+    A word's row is put among the steps if they don't make it, whatever became of the word's beginning.
+    """
+    letters = list(zip(*[fractions(house) for house in houses]))
+    found, rows = [], []
+    words = [([], [plain_idle(len(house[0])) for house in houses])]
+    while True:
+        fresh = []
+        for word, tables in words:
+            more = plain_more(rows, [number for table in tables for number in plain_long(table)])
+            if len(more) > len(rows):
+                rows, fresh = more, fresh + [word]
+        if not fresh:
+            return found, rows
+        found = found + fresh
+        words = [(word + [at], [plain_times(table, its) for table, its in zip(tables, letter)])
+                 for word, tables in words for at, letter in enumerate(letters)]
+
+
 def plain_lot(letters):
-    """The base words and their long rows, of words as long as are needed."""
-    found, rows, length = [], [], 0
-    while length == 0 or any(len(word) == length - 1 for word in found):
-        for word in itertools.product(range(len(letters)), repeat=length):
-            row = plain_long(plain_word(letters, list(word)))
-            if not plain_made(rows, row):
-                found, rows = found + [list(word)], plain_steps(rows + [row])
-        length += 1
-    return found, rows
+    """The base words and the steps of their long rows."""
+    return plain_words(letters)
+
+
+def plain_left(rows, row):
+    """The row, less what of these steps has the same numbers at their heads."""
+    for step in rows:
+        by = row[[number != 0 for number in step].index(True)]
+        row = [mine - by * its for mine, its in zip(row, step)] if by else row
+    return row
+
+
+def plain_more(rows, row):
+    """The steps of these steps and one row more."""
+    left = plain_left(rows, row)
+    if not any(left):
+        return rows
+    at = [number != 0 for number in left].index(True)
+    left = [number / left[at] for number in left]
+    return sorted([plain_left([left], step) for step in rows] + [left],
+                  key=lambda step: [number != 0 for number in step].index(True))
 
 
 def plain_made(rows, row):
     """Whether these rows, in steps, make the row."""
-    for step in rows:
-        by = row[[number != 0 for number in step].index(True)]
-        row = [mine - by * its for mine, its in zip(row, step)]
-    return not any(row)
+    return not any(plain_left(rows, row))
 
 
 def some_houses(seed):

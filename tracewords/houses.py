@@ -53,9 +53,7 @@ class House:
 def is_word(house, value):
     """Whether any value is a word of the house."""
     check_house(house)
-    if not is_list(value) or len(value) > LONGEST_WORD:
-        return False
-    return all([is_count(at) and at < house.many for at in value])
+    return are_letters_at(value, house.many)
 
 
 def about_house(house):
@@ -78,6 +76,13 @@ def led_house(house, table):
     there = table_of_size(house, table)
     back = undone(there)
     return House([times(times(there, letter), back) for letter in house.letters()])
+
+
+def are_letters_at(value, many):
+    """Whether any value is a list of 0 to 16 COUNTS below this number of letters."""
+    if not is_list(value) or len(value) > LONGEST_WORD:
+        return False
+    return all([is_count(at) and at < many for at in value])
 
 
 def are_letters(value):

@@ -72,20 +72,34 @@ def is_closed(house, value):
 def base_pairs(house):
     """Tuples of each base word and its table's long row, in sequence."""
     check_house(house)
-    letters = house.letters()
+    return [(word, long_row(tables[0])) for word, tables in base_tables([house])]
+
+
+def base_tables(houses):
+    """Tuples of each base word of all these houses, with as many letters, and the list of its table in each house.
+
+    These are the words whose long rows, behind one another, those of the words ahead do not make.
+    """
+    letters = columns_of([house.letters() for house in houses])
     found, made = [], []
-    words = [([], idle(house.width))]
+    words = [([], [idle(house.width) for house in houses])]
     while words:
         fresh = []
-        for word, table in words:
-            more = steps_with(made, long_row(table))
+        for word, tables in words:
+            more = steps_with(made, [number for table in tables for number in long_row(table)])
             if len(more) > len(made):
                 made = more
-                fresh.append((word, table))
-        found = found + [(word, long_row(table)) for word, table in fresh]
+                fresh.append((word, tables))
+        found = found + fresh
         # Each beginning of a base word is one, so only base words are gone on from.
-        words = [([*word, at], times(table, letter)) for word, table in fresh for at, letter in enumerate(letters)]
+        words = [([*word, at], letter_behind(tables, letter)) for word, tables in fresh
+                 for at, letter in enumerate(letters)]
     return found
+
+
+def letter_behind(tables, letter):
+    """The tables, in each house, of a word with this letter of each house behind it."""
+    return [times(table, its) for table, its in zip(tables, letter)]
 
 
 def is_mixture(house, value):

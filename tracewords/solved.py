@@ -82,10 +82,14 @@ def steps_of(rows):
 
 def kernel_of(rows, wide):
     """The kernel of rows of NUMBERS of this width."""
+    return steps_of(kernel_rows(rows, wide))
+
+
+def kernel_rows(rows, wide):
+    """Free lists that make the kernel; each one has its last number other than 0 further right than the one ahead."""
     whole = whole_steps(rows)
     heads = [head(step) for step in whole]
-    free = [place for place in range(wide) if place not in heads]
-    return steps_of([kernel_row(whole, place, wide) for place in free])
+    return [kernel_row(whole, place, wide) for place in range(wide) if place not in heads]
 
 
 def kernel_row(whole, place, wide):
