@@ -9,13 +9,11 @@ from tracewords.tables import from_long, is_table, long_row
 
 def commuting(house):
     """The list of the tables of which all that commute with the house are made."""
-    check_house(house)
     return leads(house, house)
 
 
 def is_commuting(house, value):
     """Whether any value is a table that commutes with the house."""
-    check_house(house)
     return is_lead(house, house, value)
 
 

@@ -50,7 +50,9 @@ def is_onto(house, room, value):
 
 def long_with(wide, at, row):
     """A long row with this row at a place, which leads a table's long row to what the row leads its row there to."""
-    return [number for place in range(wide) for number in (row if place == at else [Ratio(0) for _ in row])]
+    nought = [Ratio(0) for _ in row]
+    rows = [row if place == at else nought for place in range(wide)]
+    return [number for one in rows for number in one]
 
 
 def column_led(wide, row, place):
