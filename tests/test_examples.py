@@ -1,4 +1,4 @@
-"""The examples of the document, as they stand there; names go on from one to the next.
+r"""The examples of the document, as they stand there; names go on from one to the next.
 
 tracewords/basics.py, tracewords/ratios.py
 
@@ -128,6 +128,41 @@ tracewords/machines.py
 >>> [str(house_machine(House([[[1, 1], [0, 1]], [[1, 0], [1, 1]]])).worth(word)) for word in [[], [0], [0, 1], [0, 1, 1]]]
 ['2', '2', '3', '4']
 
+tracewords/least.py
+
+>>> from tracewords.least import is_least, least_machine, state_words, unlike_by
+>>> fading = house_machine(House([[[0, 1], [0, 0]]]))
+>>> [least_machine(fading) == Machine([1], [[[0]]], [2]), is_least(fading), is_least(pairs), state_words(pairs), least_machine(pairs) == Machine([1, 0], [[[0, 1], [1, 1]]], [1, 1])]
+[True, False, True, [[], [0]], True]
+>>> [unlike_by(pairs, Machine([1], [[[1]]], [1])), unlike_by(pairs, least_machine(pairs)), least_machine(Machine([1], [[[5]]], [0])).states]
+[[0, 0], None, 0]
+
+tracewords/rounds.py
+
+>>> from tracewords.ratios import Ratio
+>>> from tracewords.rounds import line_numbers, power_sums, round_sum, standard
+>>> one, other = [[1, 1], [0, 3]], [[0, 1], [1, 0]]
+>>> [round_sum([one]) == Ratio(4), round_sum([one, other]) == Ratio(-1), round_sum([one, one]) == Ratio(6), round_sum([one, other, one]) == Ratio(0), [str(number) for number in power_sums(one, 3)], [str(number) for number in line_numbers(one)], standard([one, other]) == [[Ratio(1), Ratio(-2)], [Ratio(2), Ratio(-1)]]]
+[True, True, True, True, ['2', '4', '10', '28'], ['3', '-4', '1'], True]
+
+tracewords/fives.py
+
+>>> from tracewords.fives import every_by, five, same_five, word_by
+>>> from tracewords.houses import House
+>>> house, flat = House([one, other]), House([[[1, 1], [0, 2]], other])
+>>> [[str(number) for number in five(house)], str(word_by(five(house), [0, 1, 0, 1])), str(word_by((4, 0, 10, 1, 2), [])), every_by(five(house)), every_by(five(flat)), same_five(house, House([other, one]))]
+[['4', '0', '10', '1', '2'], '7', '2', True, False, False]
+
+tracewords/texts.py
+
+>>> from tracewords.houses import House
+>>> from tracewords.ratios import Ratio
+>>> from tracewords.texts import is_of_sort, written
+>>> [written("row", [1, Ratio(-3, 2)]), written("house", House([[[2]], [[0]]])), written("word", (0, 1)), written("room", (2, [[1, 2]])), is_of_sort("room", (2, [[2, 1]]))]
+['row 1 -3/2\n', 'house 1\nline 2\nline 0\n', 'word 0 1\n', 'room 2\nline 1 2\n', False]
+>>> [written("mixture", [([0], 2), ([], -1)]), written("table", [[0, 1], [1, 0]]), written("number", Ratio(4, 2))]
+['mixture\nterm 2 0\nterm -1\n', 'table 2\nline 0 1\nline 1 0\n', 'number 2\n']
+
 The example of [43], and of [45]
 
 >>> [[str(one) for row in table for one in row] for table in commuting(line)], commuting(line) == middle(line)
@@ -160,6 +195,14 @@ The houses of [63] that have alike sums and no change
 Traceback (most recent call last):
     ...
 tracewords.errors.NotParted
+
+The example of [76]
+
+>>> fading = House([[[0, 1], [0, 0]]])
+>>> [str(house_machine(fading).worth([0] * many)) for many in range(4)], least_machine(house_machine(fading)).states
+(['2', '0', '0', '0'], 1)
+>>> [str(number) for row in least_machine(house_machine(fading)).tables()[0] for number in row]
+['0']
 """
 import doctest
 import pathlib

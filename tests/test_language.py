@@ -18,7 +18,7 @@ BARRED = set("""register mro elements open input law version_info with_traceback
 LIBRARY = {"math": {"gcd", "lcm"}, "heapq": {"heappush", "heappop"}, "itertools": {"product", "combinations"}}
 
 FORBIDDEN = (ast.Global, ast.AsyncFunctionDef, ast.Await, ast.AsyncFor, ast.AsyncWith, ast.Div, ast.GeneratorExp,
-             ast.Try, ast.AnnAssign, ast.Import, ast.Lambda, ast.Set)
+             ast.Try, ast.AnnAssign, ast.Import, ast.Set)
 
 DUNDERS = set("""__init__ __eq__ __repr__ __str__ __len__ __enter__ __exit__ __call__ __iter__ __add__ __radd__ __sub__
     __rsub__ __mul__ __rmul__ __neg__ __contains__ __getitem__""".split())

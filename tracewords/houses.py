@@ -2,7 +2,7 @@
 from tracewords.basics import is_count, is_list
 from tracewords.errors import InvalidHouse, InvalidLetters, InvalidTable, InvalidWord, TooMany, UnlikeLetters
 from tracewords.ratios import Ratio
-from tracewords.tables import LARGEST, about, idle, is_table, sum_on, times, told_table, undone
+from tracewords.tables import LARGEST, about, are_tables, idle, is_table, sum_on, times, told_table, undone
 
 MOST_LETTERS = 3
 LONGEST_WORD = 16
@@ -12,7 +12,7 @@ class House:
     """Letters, tables of one size, that are used one behind another."""
 
     def __init__(self, letters):
-        if not are_letters(letters):
+        if not are_tables(letters, MOST_LETTERS):
             raise InvalidLetters(letters)
         self._letters = [told_table(letter) for letter in letters]
 
@@ -83,14 +83,6 @@ def are_letters_at(value, many):
     if not is_list(value) or len(value) > LONGEST_WORD:
         return False
     return all([is_count(at) and at < many for at in value])
-
-
-def are_letters(value):
-    """Whether any value is a list of 1 to 3 tables of one size."""
-    if not is_list(value) or not 1 <= len(value) <= MOST_LETTERS:
-        return False
-    # Only a table is known to have a size, so none is asked for before all of them are known to be tables.
-    return all([is_table(letter) for letter in value]) and all([len(letter) == len(value[0]) for letter in value])
 
 
 def check_house(house):

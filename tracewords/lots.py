@@ -1,9 +1,10 @@
 """What is made of the words of a house: base words, the lot, closed lots [22], [23], [24]."""
 from tracewords.basics import is_list
 from tracewords.errors import InvalidMixture
-from tracewords.houses import check_house, is_word, table_of_size
+from tracewords.houses import are_letters_at, check_house, table_of_size
 from tracewords.ratios import is_number
-from tracewords.solved import are_rows_of, are_steps, is_made, solution_of, steps_of, steps_with
+from tracewords.sequence import free_words
+from tracewords.solved import are_rows_of, are_steps, is_made, solution_of, steps_of
 from tracewords.tables import columns_of, from_long, idle, long_row, mixed, scaled, times
 
 MOST_TERMS = 40
@@ -44,13 +45,13 @@ def is_mixture_of(house, table, value):
     """Whether any value is a mixture, of whatever words, with this table."""
     check_house(house)
     told = table_of_size(house, table)
-    return is_mixture(house, value) and table_by(house, value) == told
+    return are_terms(value, house.many) and table_by(house, value) == told
 
 
 def table_by(house, mixture):
     """The table of the mixture."""
     check_house(house)
-    if not is_mixture(house, mixture):
+    if not are_terms(mixture, house.many):
         raise InvalidMixture(mixture)
     found = scaled(idle(house.width), 0)
     for word, number in mixture:
@@ -81,20 +82,7 @@ def base_tables(houses):
     These are the words whose long rows, behind one another, those of the words ahead do not make.
     """
     letters = columns_of([house.letters() for house in houses])
-    found, made = [], []
-    words = [([], [idle(house.width) for house in houses])]
-    while words:
-        fresh = []
-        for word, tables in words:
-            more = steps_with(made, [number for table in tables for number in long_row(table)])
-            if len(more) > len(made):
-                made = more
-                fresh.append((word, tables))
-        found = found + fresh
-        # Each beginning of a base word is one, so only base words are gone on from.
-        words = [([*word, at], letter_behind(tables, letter)) for word, tables in fresh
-                 for at, letter in enumerate(letters)]
-    return found
+    return free_words([idle(house.width) for house in houses], letters, letter_behind, long_rows)
 
 
 def letter_behind(tables, letter):
@@ -102,11 +90,18 @@ def letter_behind(tables, letter):
     return [times(table, its) for table, its in zip(tables, letter)]
 
 
-def is_mixture(house, value):
-    """Whether any value is a mixture of words of the house."""
-    return is_list(value) and len(value) <= MOST_TERMS and all([is_term(house, term) for term in value])
+def long_rows(tables):
+    """The long rows of the tables, behind one another."""
+    return [number for table in tables for number in long_row(table)]
 
 
-def is_term(house, value):
-    """Whether any value is a tuple of a word of the house and a NUMBER."""
-    return isinstance(value, tuple) and len(value) == 2 and is_word(house, value[0]) and is_number(value[1])
+def are_terms(value, many):
+    """Whether any value is a mixture of words of so many letters."""
+    return is_list(value) and len(value) <= MOST_TERMS and all([is_term(term, many) for term in value])
+
+
+def is_term(value, many):
+    """Whether any value is a tuple of a word of so many letters and a NUMBER."""
+    if not isinstance(value, tuple) or len(value) != 2:
+        return False
+    return are_letters_at(value[0], many) and is_number(value[1])

@@ -4,7 +4,7 @@ from tracewords.errors import (InvalidEnds, InvalidMachine, InvalidStart, Invali
                                UnlikeLetters)
 from tracewords.houses import MOST_LETTERS, are_letters_at, check_house, on_the_line
 from tracewords.ratios import are_numbers, ratio_row
-from tracewords.solved import are_rows_of, is_row_of, led_to
+from tracewords.solved import are_rows_of, is_row_of, led_to, numbers_led
 from tracewords.tables import columns_of, idle, long_row
 
 MOST_STATES = 16
@@ -52,7 +52,7 @@ class Machine:
             raise InvalidWord(word)
         row = self._start
         for at in word:
-            row = [led_to(row, column) for column in columns_of(self._tables[at])]
+            row = numbers_led(row, columns_of(self._tables[at]))
         return led_to(row, self._ends)
 
     def __eq__(self, other):

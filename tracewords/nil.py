@@ -1,7 +1,7 @@
 """The nil part of a house, a mixture in it, and the nil room [52], [54]."""
 from tracewords.houses import check_house
-from tracewords.lots import base_pairs, is_mixture, table_by
-from tracewords.solved import is_made, is_nought, kernel_rows, led_to, steps_of, whole_row
+from tracewords.lots import are_terms, base_pairs, table_by
+from tracewords.solved import is_made, is_nought, kernel_rows, numbers_led, steps_of, whole_row
 from tracewords.sums import sums_table
 from tracewords.tables import columns_of, from_long, is_table, long_row
 
@@ -29,7 +29,7 @@ def nil_mixture(house):
 def is_nil_mixture(house, value):
     """Whether any value is a mixture whose table is in the nil part and is not nought."""
     check_house(house)
-    if not is_mixture(house, value):
+    if not are_terms(value, house.many):
         return False
     table = table_by(house, value)
     return is_nil(house, table) and not is_nought(whole_row(long_row(table)))
@@ -50,4 +50,4 @@ def nil_numbers(house):
 def nil_rows(house):
     """The steps of the long rows of the nil part."""
     columns = columns_of([row for _, row in base_pairs(house)])
-    return steps_of([[led_to(numbers, column) for column in columns] for numbers in nil_numbers(house)])
+    return steps_of([numbers_led(numbers, columns) for numbers in nil_numbers(house)])

@@ -75,6 +75,11 @@ def led_to(row, other):
     return Ratio.total([ratio_of(mine) * its for mine, its in zip(row, other)])
 
 
+def numbers_led(row, others):
+    """The numbers to which these lists lead the row."""
+    return [led_to(row, other) for other in others]
+
+
 def steps_of(rows):
     """The steps of rows of NUMBERS, alike long."""
     return [told_step(step) for step in whole_steps(rows)]

@@ -2,7 +2,7 @@
 from tracewords.errors import NotParted
 from tracewords.leads import commuting, middle
 from tracewords.lots import base_pairs
-from tracewords.solved import led_to, whole_steps
+from tracewords.solved import numbers_led, whole_steps
 from tracewords.tables import about, from_long, long_row
 
 
@@ -11,7 +11,7 @@ def sums_table(house):
     rows = [row for _, row in base_pairs(house)]
     # The sum of a product is what the one table's long row leads that of the other one, turned about, to.
     turned = [long_row(about(from_long(row))) for row in rows]
-    return [[led_to(row, other) for other in turned] for row in rows]
+    return [numbers_led(row, turned) for row in rows]
 
 
 def sums_rank(house):

@@ -2,7 +2,7 @@
 from tracewords.basics import is_count, is_list
 from tracewords.errors import InvalidRow, InvalidSize, InvalidTable, NotUndone, UnlikeSizes
 from tracewords.ratios import Ratio, are_numbers, ratio_of, ratio_row
-from tracewords.solved import are_rows_of, led_to, steps_of
+from tracewords.solved import are_rows_of, numbers_led, steps_of
 
 LARGEST = 4
 
@@ -14,7 +14,7 @@ def is_table(value):
 
 def idle(size):
     """The table of this size that leads each row to itself."""
-    if not is_count(size) or not 1 <= size <= LARGEST:
+    if not is_size(size):
         raise InvalidSize(size)
     return [[Ratio(1 if at == place else 0) for place in range(size)] for at in range(size)]
 
@@ -24,7 +24,7 @@ def times(table, other):
     first, second = told_table(table), told_table(other)
     check_sizes(first, second)
     columns = columns_of(second)
-    return [[led_to(row, column) for column in columns] for row in first]
+    return [numbers_led(row, columns) for row in first]
 
 
 def mixed(table, other, number):
@@ -83,7 +83,7 @@ def led(row, table):
         raise InvalidRow(row)
     told = told_table(table)
     check_sizes(row, told)
-    return [led_to(row, column) for column in columns_of(told)]
+    return numbers_led(row, columns_of(told))
 
 
 def long_row(table):
@@ -105,6 +105,19 @@ def told_table(table):
     if not is_table(table):
         raise InvalidTable(table)
     return [ratio_row(row) for row in table]
+
+
+def are_tables(value, most):
+    """Whether any value is a list of 1 to so many tables of one size."""
+    if not is_list(value) or not 1 <= len(value) <= most:
+        return False
+    # Only a table is known to have a size, so none is asked for before all of them are known to be tables.
+    return all([is_table(table) for table in value]) and all([len(table) == len(value[0]) for table in value])
+
+
+def is_size(value):
+    """Whether any value is a COUNT from 1 to 4."""
+    return is_count(value) and 1 <= value <= LARGEST
 
 
 def check_sizes(rows, others):
