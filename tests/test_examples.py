@@ -163,6 +163,36 @@ tracewords/texts.py
 >>> [written("mixture", [([0], 2), ([], -1)]), written("table", [[0, 1], [1, 0]]), written("number", Ratio(4, 2))]
 ['mixture\nterm 2 0\nterm -1\n', 'table 2\nline 0 1\nline 1 0\n', 'number 2\n']
 
+tracewords/readers.py
+
+>>> from tracewords.readers import read
+>>> [read("word\n"), read("room 2\n"), read("number 1/2\n"), read("table 1\nline 3\n"), read("mixture\nterm 1 0 0\n")]
+[('word', []), ('room', (2, [])), ('number', Ratio(1, 2)), ('table', [[Ratio(3, 1)]]), ('mixture', [([0, 0], Ratio(1, 1))])]
+
+tracewords/claims.py
+
+>>> from tracewords.claims import contrary, is_claim, is_paper_of, is_true
+>>> full, line = House([[[1, 1], [0, 1]], [[1, 0], [1, 1]]]), House([[[1, 0], [0, 2]]])
+>>> [is_true(("all", full)), is_paper_of(("all", full), [[], [0], [1], [0, 1]]), is_true(("less", line)), is_paper_of(("made", line, [[3, 0], [0, 5]]), [([], 1), ([0], 2)]), contrary(("kept", line, [[1, 0]])) == ("ledout", line, [[1, 0]])]
+[True, True, True, True, True]
+>>> [is_paper_of(("parts", line), [[], [0]]), is_paper_of(("ledout", full, [[1, 0]]), (0, 0)), is_true(("kept", line, [[0, 1]])), is_claim(("made", line, [[1]])), is_paper_of(("unlike", line, House([[[1]]])), [])]
+[True, True, True, False, True]
+
+tracewords/commands.py
+
+>>> from tracewords.commands import is_command, is_deed
+>>> [is_command("table x 0,1 0,0"), is_command("table x 0, 1"), is_deed("house h x y"), is_command("wordsum h -"), is_deed("undo"), is_command("house h")]
+[True, False, True, True, False, False]
+
+tracewords/desk.py
+
+>>> from tracewords.desk import Desk
+>>> desk = Desk()
+>>> desk.do_all("table x 0,1 0,0", "table y 0,0 1,0", "house h x y", "claim k all h", "dimension h", "wordsum h 0,1", "base h", "rows r 1,0", "claim n kept h r")
+['-', '-', '-', 'k true', '4', '1', '- 0 1 0,1', '-', 'n false']
+>>> desk.do_all("put h 1 x", "dimension h", "parted h", "undo", "states", "show h", "out h r", "names")
+['k false', '2', 'no', 'put h 1 x', 'k true, n false', '0,1 0,0 ; 0,0 1,0', '0 0', 'h r x y']
+
 The example of [43], and of [45]
 
 >>> [[str(one) for row in table for one in row] for table in commuting(line)], commuting(line) == middle(line)

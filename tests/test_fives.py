@@ -149,7 +149,8 @@ class WordByTest(PackageTest):
         source = random.Random(853)
         for letters in [one for one in some_letters(854, 6) if (len(one), len(one[0])) == (2, 2)]:
             numbers = five(House(letters))
-            words = words_up_to(2, 4) + [[source.randint(0, 1) for _ in range(source.choice([9, 16]))] for _ in range(3)]
+            longer = [[source.randint(0, 1) for _ in range(many)] for many in (9, 16, 16)]
+            words = words_up_to(2, 4) + longer
             for word in words:
                 self.gives(told(plain_sum(plain_word(letters, word))), word_by, five=numbers, word=word)
 

@@ -18,7 +18,7 @@ BARRED = set("""register mro elements open input law version_info with_traceback
 LIBRARY = {"math": {"gcd", "lcm"}, "heapq": {"heappush", "heappop"}, "itertools": {"product", "combinations"}}
 
 FORBIDDEN = (ast.Global, ast.AsyncFunctionDef, ast.Await, ast.AsyncFor, ast.AsyncWith, ast.Div, ast.GeneratorExp,
-             ast.Try, ast.AnnAssign, ast.Import, ast.Set)
+             ast.AnnAssign, ast.Import, ast.Set)
 
 DUNDERS = set("""__init__ __eq__ __repr__ __str__ __len__ __enter__ __exit__ __call__ __iter__ __add__ __radd__ __sub__
     __rsub__ __mul__ __rmul__ __neg__ __contains__ __getitem__""".split())
@@ -30,6 +30,10 @@ def files():
 
 def trees():
     return [(path, ast.parse(path.read_text(encoding="utf-8"))) for path in files()]
+
+
+def trees_by_name():
+    return [(path.stem, tree) for path, tree in trees()]
 
 
 def inner(tree, *kinds):
@@ -49,7 +53,83 @@ def own_imports(tree):
             and node.module.startswith("tracewords.") for name in node.names]
 
 
+# The functions and classes of the interface, by their files, and the methods and properties of the classes.
+INTERFACE = {
+    "basics": "is_integer is_count",
+    "ratios": "is_number Ratio",
+    "solved": "steps kernel solution is_solution",
+    "tables": "is_table idle times mixed scaled sum_on determinant about undone led long_row from_long",
+    "houses": "House is_word about_house side led_house",
+    "lots": "base_words dimension lot_rows every_table mixture_of is_mixture_of table_by is_closed",
+    "rooms": "is_room led_out least_room sum_room meet_room noughts images",
+    "cuts": "cut rest_house split_sums",
+    "leads": "commuting is_commuting leads is_lead middle",
+    "partners": "partner is_partner onto is_onto",
+    "sums": "sums_table sums_rank parts counts",
+    "nil": "nil_part is_nil nil_mixture is_nil_mixture nil_room",
+    "alike": "both_words unlike_word alike_sums is_unlike_word",
+    "changes": "change is_change",
+    "machines": "Machine house_machine sum_machine",
+    "least": "least_machine is_least state_words unlike_by",
+    "rounds": "round_sum standard power_sums line_numbers",
+    "fives": "five same_five word_by every_by",
+    "texts": "sorts is_of_sort written",
+    "readers": "read",
+    "claims": "words is_claim is_true contrary paper_of is_paper_of",
+    "commands": "is_name is_command is_deed",
+    "desk": "Desk Trial tried",
+}
+
+METHODS = {
+    "Ratio": "top bottom sign is_whole __add__ __radd__ __sub__ __rsub__ __mul__ __rmul__ __neg__ over size is_below "
+             "is_at_most __eq__ total __str__ __repr__",
+    "House": "width many letters table word_sum __eq__ __repr__",
+    "Machine": "states many start tables ends worth __eq__ __repr__",
+    "Desk": "names labels __len__ __getitem__ __contains__ claim_of do __call__ do_all attempt attach fits lines copy "
+            "again",
+    "Trial": "__enter__ __exit__",
+}
+
+
 class LanguageTest(unittest.TestCase):
+    def test_the_interface_stands_in_its_files(self):
+        known = dict(trees_by_name())
+        for file, names in INTERFACE.items():
+            defined = [node.name for node in known[file].body if isinstance(node, (ast.FunctionDef, ast.ClassDef))]
+            for name in names.split():
+                self.assertIn(name, defined, file)
+
+    def test_methods_stand_in_their_classes(self):
+        classes = {node.name: node for _, tree in trees() for node in tree.body if isinstance(node, ast.ClassDef)}
+        for name, methods in METHODS.items():
+            defined = [node.name for node in classes[name].body if isinstance(node, ast.FunctionDef)]
+            for method in methods.split():
+                self.assertIn(method, defined, name)
+
+    def test_own_errors_alone_are_caught(self):
+        own = {node.name for node in dict(trees_by_name())["errors"].body if isinstance(node, ast.ClassDef)}
+        for path, tree in trees():
+            for node in inner(tree, ast.Try):
+                self.assertFalse(node.finalbody, path)
+                for handler in node.handlers:
+                    self.assertTrue({one.id for one in inner(handler.type, ast.Name)} <= own, path)
+
+    def test_generators_are_iterated_at_once(self):
+        names = {node.name for _, tree in trees() for node in inner(tree, ast.FunctionDef)
+                 if inner(node, ast.Yield, ast.YieldFrom)}
+        for path, tree in trees():
+            fine = [node.iter for node in inner(tree, ast.For, ast.comprehension)]
+            fine += [node.value for node in inner(tree, ast.YieldFrom)]
+            fine += [node.args[0] for node in inner(tree, ast.Call) if isinstance(node.func, ast.Name) and node.args
+                     and node.func.id in ["list", "tuple", "sorted"]]
+            for node in inner(tree, ast.Call):
+                if isinstance(node.func, ast.Name) and node.func.id in names:
+                    self.assertIn(node, fine, (path, node.lineno))
+            used = [node.func for node in inner(tree, ast.Call)]
+            for node in inner(tree, ast.Name):
+                if node.id in names:
+                    self.assertIn(node, used, (path, node.lineno))
+
     def test_the_folder_holds_python_files_alone(self):
         names = [path.name for path in PACKAGE.iterdir() if path.name != "__pycache__"]
         self.assertEqual(sorted(names), [path.name for path in files()])
@@ -140,6 +220,7 @@ class LanguageTest(unittest.TestCase):
                     bound.add(node.name)
             bound |= {node.id for node in inner(tree, ast.Name) if isinstance(node.ctx, ast.Store)}
             bound |= {node.arg for node in inner(tree, ast.arg)}
+            bound |= {node.name for node in inner(tree, ast.ExceptHandler)}
             for node in inner(tree, ast.Name):
                 self.assertIn(node.id, bound | BUILTINS, path)
                 self.assertNotIn(node.id, BARRED, path)

@@ -47,7 +47,7 @@ def untold(tables, ends):
 
 
 def plain_state_words(start, tables, ends):
-    """The state words by the document's words: of all words, those that the ones ahead and what is untold don't make."""
+    """The state words by the document's words: those that what is untold and the words ahead don't make."""
     found, rows = [], untold(tables, ends)
     for word in words_up_to(len(tables), len(ends)):
         more = plain_more(rows, started(start, tables, word))

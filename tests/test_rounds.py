@@ -76,7 +76,8 @@ def bad_lists(most):
     """Values that are no list of one to so many tables of one size."""
     found = no_lists() + [[], (), ONE, [1], [ONE, [[1]]], [[[1]], ONE], [ONE] * (most + 1), (ONE,) * (most + 1)]
     found += [[ONE, one] for one in bad_tables()] + [[one, ONE, OTHER] for one in bad_tables()]
-    found += [[one, one, ONE] for one in no_lists()] + [[one] for one in no_lists()] + [[[[one]]] for one in no_numbers()]
+    found += [[one, one,
+               ONE] for one in no_lists()] + [[one] for one in no_lists()] + [[[[one]]] for one in no_numbers()]
     return found + spoiled([ONE, OTHER, ONE]) + spoiled(tupled([ONE, OTHER])) + [[[[0] * 5] * 5], Odd()]
 
 
@@ -117,7 +118,8 @@ class RoundSumTest(PackageTest):
         for tables in some_lots(815, 4):
             for at, table in enumerate(tables):
                 other = some_rows(random.Random(816 + at), len(table), len(table))
-                both = [[mine + Ratio(2, 3) * its for mine, its in zip(*rows)] for rows in zip(told(table), told(other))]
+                both = [[mine + Ratio(2, 3) * its for mine, its in zip(row, line)]
+                        for row, line in zip(told(table), told(other))]
                 left, right, whole = [[*tables[:at], one, *tables[at + 1:]] for one in (table, other, both)]
                 self.same(round_sum(whole), round_sum(left) + Ratio(2, 3) * round_sum(right))
 

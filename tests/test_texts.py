@@ -17,10 +17,10 @@ LONG = [0, 1, 2, 0] * 4
 # Tuples of a sort, a value and its written form; the values are as `read` returns them, but for Ratios.
 FORMS = [
     ("number", 0, "number 0\n"), ("number", 7, "number 7\n"), ("number", -12, "number -12\n"),
-    ("number", HALF, "number 1/2\n"), ("number", Ratio(-3, 2), "number -3/2\n"), ("number", 10 ** 30,
-                                                                                 f"number {10 ** 30}\n"),
-    ("number", Ratio(999999, 1000000), "number 999999/1000000\n"), ("number", Ratio(-1, 10 ** 40),
-                                                                   f"number -1/{10 ** 40}\n"),
+    ("number", HALF, "number 1/2\n"), ("number", Ratio(-3, 2), "number -3/2\n"),
+    ("number", 10 ** 30, f"number {10 ** 30}\n"),
+    ("number", Ratio(999999, 1000000), "number 999999/1000000\n"),
+    ("number", Ratio(-1, 10 ** 40), f"number -1/{10 ** 40}\n"),
     ("row", [1], "row 1\n"), ("row", [1, Ratio(-3, 2)], "row 1 -3/2\n"), ("row", [0, 0, 0, -1], "row 0 0 0 -1\n"),
     ("table", [[3]], "table 1\nline 3\n"), ("table", [[0, 1], [1, 0]], "table 2\nline 0 1\nline 1 0\n"),
     ("table", [[0, HALF, -1]] * 3, "table 3\n" + "line 0 1/2 -1\n" * 3),
@@ -65,7 +65,8 @@ def wrong_values():
     odd = [None, True, False, "", "1", b"1", {}, {0: 1}, set(), Odd(), Odd, len, Fraction(1), range(2), House]
     found = {sort: odd + [[True], [[False]], [None], "ab"] for sort in SORTS}
     found["number"] = no_numbers() + [[1], (1, 2)]
-    found["row"] += [[], (), [1] * 5, 1, HALF, [[1]], House([[[1]]])] + spoiled([1, 2]) + [[one] for one in no_numbers()]
+    found["row"] += [[], (), [1] * 5, 1, HALF, [[1]], House([[[1]]])] + spoiled([1, 2])
+    found["row"] += [[one] for one in no_numbers()]
     found["table"] = bad_tables() + [[[True]], [[1, 0], [0, False]]]
     found["house"] = no_houses() + [1, HALF]
     found["word"] = bad_words(3) + [[3], [True], [0, False], [Ratio(1)], [-1]]
@@ -106,7 +107,8 @@ class SortsTest(PackageTest):
             self.assertEqual([sort for sort in SORTS if is_of_sort(sort, value)], wanted, value)
 
     def test_wrong_sorts(self):
-        for sort in ["", "numbers", "Number", "number ", "line", "term", "words"] + no_lists() + [[], ["row"], (), Odd()]:
+        others = no_lists() + [[], ["row"], (), Odd()]
+        for sort in ["", "numbers", "Number", "number ", "line", "term", "words"] + others:
             self.fails_both(InvalidSort, {"value": sort}, is_of_sort, sort=sort, value=1)
             self.fails_both(InvalidSort, {"value": sort}, written, sort=sort, value=1)
 

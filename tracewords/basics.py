@@ -1,4 +1,4 @@
-"""What counts as an INTEGER, a COUNT, and a list that is passed."""
+"""What counts as an INTEGER, a COUNT, a list that is passed; copies of values."""
 
 
 def is_integer(value):
@@ -15,3 +15,12 @@ def is_count(value):
 def is_list(value):
     """Whether any value may stand where a list is wanted."""
     return isinstance(value, (list, tuple))
+
+
+def copied(value):
+    """The value with new lists and tuples, also inside it."""
+    if isinstance(value, list):
+        return [copied(one) for one in value]
+    if isinstance(value, tuple):
+        return tuple([copied(one) for one in value])
+    return value

@@ -37,8 +37,9 @@ def unlike_by(machine, other):
         raise UnlikeLetters()
     # What both machines do side by side, with the other one's ends turned, is the difference of their worths.
     letters = [columns_of(on_the_line(mine, its)) for mine, its in zip(machine.tables(), other.tables())]
+    start = machine.start() + other.start()
     ends = machine.ends() + [-number for number in other.ends()]
-    for word, row in free_words(machine.start() + other.start(), letters, whole_led, whole_row):
+    for word, row in free_words(start, letters, whole_led, whole_row):
         if led_to(row, ends).sign != 0:
             return word
     return None
@@ -46,14 +47,15 @@ def unlike_by(machine, other):
 
 def seen_lists(machine):
     """Free lists that lead two starts to unlike numbers exactly if some word tells the starts apart."""
-    pairs = free_words(machine.ends(), machine.tables(), whole_led, whole_row)
-    return whole_steps([row for _, row in pairs])
+    ends, tables = machine.ends(), machine.tables()
+    return whole_steps([row for _, row in free_words(ends, tables, whole_led, whole_row)])
 
 
 def state_pairs(machine, seen):
     """Tuples of each state word and its started row, in sequence."""
+    start = machine.start()
     letters = [columns_of(table) for table in machine.tables()]
-    return free_words(machine.start(), letters, numbers_led, lambda row: numbers_led(row, seen))
+    return list(free_words(start, letters, numbers_led, lambda row: numbers_led(row, seen)))
 
 
 def next_numbers(pairs, states, seen, columns):

@@ -82,7 +82,8 @@ def base_tables(houses):
     These are the words whose long rows, behind one another, those of the words ahead do not make.
     """
     letters = columns_of([house.letters() for house in houses])
-    return free_words([idle(house.width) for house in houses], letters, letter_behind, long_rows)
+    first = [idle(house.width) for house in houses]
+    yield from free_words(first, letters, letter_behind, long_rows)
 
 
 def letter_behind(tables, letter):

@@ -9,7 +9,7 @@ def free_words(first, letters, lead, row_of):
     behind; `row_of` tells the row of what is held. What makes a row must be led to what makes the row that it is led
     to: then each beginning of such a word is one, too.
     """
-    found, made = [], []
+    made = []
     words = [([], first)]
     while words:
         fresh = []
@@ -18,7 +18,6 @@ def free_words(first, letters, lead, row_of):
             if len(more) > len(made):
                 made = more
                 fresh.append((word, held))
-        found = found + fresh
+                yield (word, held)
         # Each beginning of such a word is one, so only such words are gone on from.
         words = [([*word, at], lead(held, letter)) for word, held in fresh for at, letter in enumerate(letters)]
-    return found

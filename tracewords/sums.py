@@ -8,7 +8,11 @@ from tracewords.tables import about, from_long, long_row
 
 def sums_table(house):
     """The table of sums, a list of lists of Ratios."""
-    rows = [row for _, row in base_pairs(house)]
+    return sums_of([row for _, row in base_pairs(house)])
+
+
+def sums_of(rows):
+    """The sums of the products, two by two, of the tables of these long rows."""
     # The sum of a product is what the one table's long row leads that of the other one, turned about, to.
     turned = [long_row(about(from_long(row))) for row in rows]
     return [numbers_led(row, turned) for row in rows]
