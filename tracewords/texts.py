@@ -53,7 +53,7 @@ def written(sort, value):
 
 def check_sort(sort):
     """Raise InvalidSort unless it is the word of a sort."""
-    if not isinstance(sort, str) or sort not in SORTS:
+    if sort not in SORTS:
         raise InvalidSort(sort)
 
 
